@@ -1,0 +1,1 @@
+"""Loomarrays: whole tables, and the loops they are written into."""
