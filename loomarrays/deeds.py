@@ -5,6 +5,11 @@ REST = 1000003
 FOLDED_NONE = {"add": 0, "times": 1}
 
 
+def is_rest(number):
+    """Whether the number is a rest, as all cells are."""
+    return 0 <= number < REST
+
+
 def one_deed(deed, number):
     """What minus, half or none makes of a number."""
     if deed == "minus":

@@ -1,5 +1,16 @@
 """Sides of tables: counts of cells, places in row order, and where two rows of sides meet."""
 
+MOST_SIDES = 4
+LONGEST_SIDE = 64
+MOST_CELLS = 4096
+
+
+def sides_can_be(sides):
+    """Whether a table may have these sides."""
+    if len(sides) > MOST_SIDES or not all([0 <= side <= LONGEST_SIDE for side in sides]):
+        return False
+    return cells_in(sides) <= MOST_CELLS
+
 
 def cells_in(sides):
     """How many cells a table of these sides has."""
@@ -50,3 +61,18 @@ def sides_met(one, other):
 def with_ones_ahead(sides, many):
     """The sides made so many by sides of 1 ahead of them: a side that is not there counts as 1."""
     return [1 for missing in range(many - len(sides))] + list(sides)
+
+
+def without(row, side):
+    """Sides or an index without what stands at a side."""
+    return row[:side] + row[side + 1:]
+
+
+def put_in(row, side, number):
+    """Sides or an index with a number more, put in at a side."""
+    return row[:side] + (number,) + row[side:]
+
+
+def replaced(row, side, number):
+    """Sides or an index with another number at a side."""
+    return row[:side] + (number,) + row[side + 1:]

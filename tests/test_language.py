@@ -27,6 +27,8 @@ NO_METHODS = {name for kind in (str, int, list, tuple, dict, set, frozenset, byt
     append clear copy count endswith extend find get index insert isalnum isalpha isdigit islower isspace isupper
     items join keys ljust lower lstrip partition pop remove replace reverse rfind rjust rpartition rsplit rstrip
     setdefault split splitlines startswith strip update upper values zfill bit_length add discard""".split())
+WALKED = {"zip", "enumerate", "reversed", "range", "items", "keys", "values"}
+WALKERS = {"list", "tuple", "dict", "sorted", "sum", "any", "all", "enumerate", "zip"}
 NO_WORDS = re.compile(
     r"\b(type|typing|typing_extensions|enum|Enum|IntEnum|StrEnum|Flag|IntFlag|Generic|Protocol|ABC|ABCMeta"
     r"|namedtuple|NamedTuple|TypedDict|TYPE_CHECKING|abstractmethod)\b|dataclass|overload|contextmanager")
@@ -115,10 +117,53 @@ def faults_of_names(node):
                 yield f"L12 or L17 name {name}"
 
 
+def name_called(node):
+    return getattr(node.func, "id", getattr(node.func, "attr", None)) if isinstance(node, ast.Call) else None
+
+
+def faults_of_walks(tree):
+    """L23: what is to be walked on the spot, and is not."""
+    walked = set()
+    for node in ast.walk(tree):
+        if isinstance(node, (ast.For, ast.comprehension)):
+            walked.add(node.iter)
+        elif name_called(node) in WALKERS | {"join"} or name_called(node) in ("min", "max") and len(node.args) == 1:
+            walked.update(node.args[:1])
+    for node in ast.walk(tree):
+        if name_called(node) in WALKED and node not in walked:
+            yield f"L23 line {node.lineno}"
+
+
+def faults_of_sets(tree):
+    """L24: sets stand beside in, == and !=, or within sorted and len."""
+    free = set()
+    for node in ast.walk(tree):
+        if isinstance(node, ast.Compare):
+            free.update([node.left] + node.comparators)
+        elif name_called(node) in ("sorted", "len"):
+            free.update(node.args)
+    for node in ast.walk(tree):
+        if (isinstance(node, ast.Set) or name_called(node) in ("set", "frozenset")) and node not in free:
+            yield f"L24 line {node.lineno}"
+
+
+def names_kept(texts):
+    """The names of all methods and of all values of objects in these files."""
+    methods, values = set(), set()
+    for tree in map(ast.parse, texts):
+        for node in ast.walk(tree):
+            if isinstance(node, ast.ClassDef):
+                methods.update(inner.name for inner in node.body if isinstance(inner, ast.FunctionDef))
+            elif isinstance(node, ast.Attribute) and isinstance(node.ctx, ast.Store):
+                values.add(node.attr)
+    return methods, values
+
+
 def faults_in(text):
     """What in a file's text breaks a rule, a word for each."""
     tree = ast.parse(text)
     faults = list(faults_of_text(text)) + list(faults_of_top(tree))
+    faults += list(faults_of_walks(tree)) + list(faults_of_sets(tree))
     for node in ast.walk(tree):
         for look in (faults_of_node, faults_of_def, faults_of_names):
             faults.extend(look(node))
@@ -140,6 +185,18 @@ class ThePackage(unittest.TestCase):
         for path in sorted(PACKAGE.glob("*.py")):
             self.assertEqual(faults_in(path.read_text("utf-8")), [], path.name)
 
+    def test_no_name_is_a_method_and_a_value(self):
+        methods, values = names_kept([path.read_text("utf-8") for path in PACKAGE.glob("*.py")])
+        self.assertEqual(methods & values, set(), "L18")
+
+    def test_names_are_drawn_from_the_file_that_defines_them(self):
+        for path in PACKAGE.glob("*.py"):
+            for node in ast.walk(ast.parse(path.read_text("utf-8"))):
+                for alias in node.names if isinstance(node, ast.ImportFrom) else ():
+                    source = PACKAGE / (node.module.split(".")[1] + ".py")
+                    bound = rf"(?m)^((def|class) {alias.name}\b|{alias.name} =)"
+                    self.assertRegex(source.read_text("utf-8"), bound, "L16")
+
     def test_no_two_files_draw_from_one_another(self):
         drawn = {f"loomarrays.{path.stem}": modules_drawn_from(path.read_text("utf-8"))
                  for path in PACKAGE.glob("*.py")}
@@ -159,14 +216,22 @@ class TheRules(unittest.TestCase):
                      "def f(xs):\n    return sum(x for x in xs)", "def f(a):\n    return a is f", "def f(min):\n    pass",
                      "def f(a):\n    for _ in a:\n        pass", "class A:\n    a = 1", "class A(B, C):\n    pass",
                      "A = 1\nA = 2", "f(1)", "# the type of it", "# \u00e4", "#" + "x" * 120, "A = '%'",
+                     "def f(a):\n    return a in range(3)", "def f(a):\n    b = zip(a, a)\n    return 1",
+                     "def f(a):\n    return list(reversed(range(a)))", "def f(d):\n    return d.items()",
+                     "def f(a):\n    b = set(a)\n    return 1", "def f(a):\n    return len([b for b in {a}])",
                      "def f():\n" + "    f()\n" * 40):
             self.assertNotEqual(faults_in(text), [], text)
 
     def test_what_keeps_them_is_let_by(self):
         for text in ("", '"""Words."""\n\nA = 1\n', "from loomarrays.errors import NoTable\n",
                      "class A(ValueError):\n    def __init__(self, at):\n        self.at = at\n",
-                     "def f(xs):\n    return [x for x in xs if x is not None]\n"):
+                     "def f(xs):\n    return [x for x in xs if x is not None]\n",
+                     "def f(d):\n    return max(d.values()) + len(set(d)) + sum([k for k in range(3)])\n"):
             self.assertEqual(faults_in(text), [], text)
+
+    def test_a_name_that_is_a_method_and_a_value_is_seen(self):
+        methods, values = names_kept(["class A:\n    def b(self):\n        pass", "def f(a):\n    a.b = 1"])
+        self.assertEqual(methods & values, {"b"})
 
 
 if __name__ == "__main__":
