@@ -41,6 +41,16 @@ def folded_none(deed):
     return FOLDED_NONE[deed]
 
 
+def folded(deed, numbers):
+    """The fold of a list of numbers, from the first on."""
+    if len(numbers) == 0:
+        return folded_none(deed)
+    number = numbers[0]
+    for other in numbers[1:]:
+        number = both_deed(deed, number, other)
+    return number
+
+
 def one_if(holds):
     """A whole number for whether something holds: True and False are none."""
     return 1 if holds else 0

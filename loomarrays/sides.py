@@ -47,6 +47,11 @@ def index_of(sides, place):
     return tuple(at)
 
 
+def indexes_of(sides):
+    """All indexes in row order."""
+    return [index_of(sides, place) for place in range(cells_in(sides))]
+
+
 def sides_met(one, other):
     """The sides in which the two meet, or None where they do not."""
     many = max(len(one), len(other))
