@@ -75,3 +75,8 @@ def reading_by(way, strides, many):
         if part[1] != -1:
             steps[part[1]] = steps[part[1]] + part[2] * stride
     return (start, tuple(steps))
+
+
+def place_read(start, steps, at):
+    """The place that a reading tells at an index of the loop."""
+    return start + sum([step * number for step, number in zip(steps, at)])

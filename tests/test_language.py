@@ -147,6 +147,18 @@ def faults_of_sets(tree):
             yield f"L24 line {node.lineno}"
 
 
+def faults_of_locals(tree):
+    """L15: parameters and locals that are called like a class or an import of their file."""
+    taken = {alias.name for node in tree.body if isinstance(node, ast.ImportFrom) for alias in node.names}
+    taken |= {node.name for node in tree.body if isinstance(node, ast.ClassDef)}
+    for node in ast.walk(tree):
+        named = node.arg if isinstance(node, ast.arg) else None
+        if isinstance(node, ast.Name) and isinstance(node.ctx, ast.Store):
+            named = node.id
+        if named in taken:
+            yield f"L15 name {named} in line {node.lineno}"
+
+
 def names_kept(texts):
     """The names of all methods and of all values of objects in these files."""
     methods, values = set(), set()
@@ -163,7 +175,7 @@ def faults_in(text):
     """What in a file's text breaks a rule, a word for each."""
     tree = ast.parse(text)
     faults = list(faults_of_text(text)) + list(faults_of_top(tree))
-    faults += list(faults_of_walks(tree)) + list(faults_of_sets(tree))
+    faults += list(faults_of_walks(tree)) + list(faults_of_sets(tree)) + list(faults_of_locals(tree))
     for node in ast.walk(tree):
         for look in (faults_of_node, faults_of_def, faults_of_names):
             faults.extend(look(node))
@@ -213,11 +225,14 @@ class TheRules(unittest.TestCase):
                      "def f(*a):\n    return 1", "def f(a):\n    return a / 2", "def f():\n    return 0.5",
                      "def f():\n    return open(1)", "def f(xs):\n    xs.sort()", "def f():\n    a = b = 1",
                      "def f(t):\n    a, b = t", "def f(a):\n    assert a", "def f(a):\n    yield a",
-                     "def f(xs):\n    return sum(x for x in xs)", "def f(a):\n    return a is f", "def f(min):\n    pass",
+                     "def f(xs):\n    return sum(x for x in xs)", "def f(a):\n    return a is f",
+                     "def f(min):\n    pass",
                      "def f(a):\n    for _ in a:\n        pass", "class A:\n    a = 1", "class A(B, C):\n    pass",
                      "A = 1\nA = 2", "f(1)", "# the type of it", "# \u00e4", "#" + "x" * 120, "A = '%'",
                      "def f(a):\n    return a in range(3)", "def f(a):\n    b = zip(a, a)\n    return 1",
                      "def f(a):\n    return list(reversed(range(a)))", "def f(d):\n    return d.items()",
+                     "from loomarrays.sides import cells_in\n\ndef f(cells_in):\n    return 1",
+                     "class A:\n    pass\n\ndef f(b):\n    A = b\n    return A",
                      "def f(a):\n    b = set(a)\n    return 1", "def f(a):\n    return len([b for b in {a}])",
                      "def f():\n" + "    f()\n" * 40):
             self.assertNotEqual(faults_in(text), [], text)
