@@ -1,5 +1,6 @@
-"""Programs for the tests: made by a seed, of all kinds of lines, that can be; and loops told as plain tuples."""
+"""Programs for the tests, made by seeds, of all kinds of lines, that can be; loops told as plain tuples, and done."""
 
+import itertools
 import random
 
 from loomarrays.errors import BadLine
@@ -18,6 +19,11 @@ BOTH = ("add", "less", "times", "least", "most", "below", "alike")
 FOLD = ("add", "times", "least", "most")
 GIVEN_SIDES = ((2, 3), (3,), (4,), (), (1, 3), (2, 1, 2), (2, 3, 2, 2), (3, 2))
 EMPTY_SIDES = ((0,), (2, 0), (0, 3), (1, 0, 2))
+REST = 1000003
+DOES_ONE = {"minus": lambda a: -a % REST, "half": lambda a: a // 2, "none": lambda a: int(a == 0)}
+DOES_BOTH = {"add": lambda a, b: (a + b) % REST, "less": lambda a, b: (a - b) % REST,
+             "times": lambda a, b: a * b % REST, "least": min, "most": max,
+             "below": lambda a, b: int(a < b), "alike": lambda a, b: int(a == b)}
 NUMBERS = (0, 0, 1, 2, 3, 500002, 1000002)
 
 
@@ -140,3 +146,68 @@ def lines_read(told):
         return [told[4], told[5]]
     return [line for part in told if isinstance(part, tuple) and part and isinstance(part[0], str)
             for line in lines_read(part)]
+
+
+def indexes(sides):
+    """All indexes in row order."""
+    return list(itertools.product(*[range(side) for side in sides]))
+
+
+def number_by(part, at):
+    """The number of a part of a way."""
+    first, which, step = part
+    return first if which == -1 else first + step * at[which]
+
+
+def reckoned(tree, at, rows, done):
+    """What a tree, told as a tuple, gives at an index; each deed is put into `done`.
+
+    Rows are told by lines, and are read at their places alone.
+    """
+    kind = tree[0]
+    if kind == "even":
+        return tree[1]
+    if kind == "read":
+        place = tree[2] + sum(step * number for step, number in zip(tree[3], at, strict=True))
+        if not 0 <= place < len(rows[tree[1]]):
+            raise AssertionError(f"line {tree[1]} has no place {place}")
+        return rows[tree[1]][place]
+    if kind in ("one", "both", "where"):
+        done.append(kind)
+    if kind == "one":
+        return DOES_ONE[tree[1]](reckoned(tree[2], at, rows, done))
+    if kind == "both":
+        return DOES_BOTH[tree[1]](reckoned(tree[2], at, rows, done), reckoned(tree[3], at, rows, done))
+    if kind == "where":
+        return reckoned(tree[2] if reckoned(tree[1], at, rows, done) != 0 else tree[3], at, rows, done)
+    below = number_by(tree[1], at) < tree[2]
+    if kind == "within":
+        return reckoned(tree[3], at, rows, done) if below and number_by(tree[1], at) >= 0 else tree[4]
+    return reckoned(tree[3] if below else tree[4], at, rows, done)
+
+
+def folded(deed, numbers):
+    """The fold of numbers."""
+    number = {"add": 0, "times": 1}[deed] if not numbers else numbers[0]
+    for other in numbers[1:]:
+        number = DOES_BOTH[deed](number, other)
+    return number
+
+
+def cells_by(loop, rows, tables, done):
+    """The cells that a loop, told as a tuple, writes; each deed is put into `done`."""
+    kind, sides = loop[0], loop[2]
+    if kind == "load":
+        return list(tables[loop[3]].cells)
+    if kind == "fill":
+        return [reckoned(loop[3], at, rows, done) for at in indexes(sides)]
+    side = loop[3]
+    if kind == "fold":
+        return [folded(loop[5], [reckoned(loop[6], at[:side] + (number,) + at[side:], rows, done)
+                                 for number in range(loop[4])]) for at in indexes(sides)]
+    if kind == "through":
+        cells = {at: reckoned(loop[5], at, rows, done) for at in indexes(sides)}
+        return [folded(loop[4], [cells[at[:side] + (number,) + at[side + 1:]] for number in range(at[side] + 1)])
+                for at in indexes(sides)]
+    source = dict(zip(indexes(loop[6]), rows[loop[4]]))
+    return [source[at[:side] + (rows[loop[5]][at[side]],) + at[side + 1:]] for at in indexes(sides)]

@@ -3,7 +3,7 @@
 import random
 import unittest
 
-from programs import plan_told, program_of
+from programs import cells_by, plan_told, program_of
 
 from loomarrays.errors import BadLine, LoomError, NoCell, NoTable, NoText
 from loomarrays.keeping import wanted_lines
@@ -198,6 +198,22 @@ class CountsOfDeeds(unittest.TestCase):
 
     def test_lines_on_which_the_answer_does_not_hang_count_nothing(self):
         self.counted([("given", 0), ("one", "half", 0), ("given", 1), ("one", "none", 2)], 4)
+
+    def test_counts_of_many_programs(self):
+        counted = 0
+        for seed in range(300):
+            program, tables = program_of(seed, 1 + seed % 40, seed % 5 == 0)
+            plan = plan_of(program, sides_given(tables))
+            try:
+                answer, many = run_plan(plan, tables)
+            except NoCell:
+                continue
+            rows, done = {}, []
+            for loop in plan_told(plan)[0]:
+                rows[loop[1]] = cells_by(loop, rows, tables, done)
+            self.assertEqual(many, len(done), program)
+            counted += many > 0
+        self.assertGreater(counted, 80)
 
     def test_at_most_as_many_as_the_wanted_lines_have_cells(self):
         for seed in range(200):

@@ -3,7 +3,7 @@
 import itertools
 import unittest
 
-from programs import lines_read, plan_told, program_of
+from programs import cells_by, indexes, lines_read, plan_told, program_of
 
 from loomarrays.errors import BadLine, NoCell
 from loomarrays.keeping import kept_lines
@@ -12,67 +12,7 @@ from loomarrays.plain import plain_answer
 from loomarrays.plans import Plan, plan_of
 from loomarrays.tables import Table
 
-BOTH = {"add": lambda a, b: (a + b) % 1000003, "less": lambda a, b: (a - b) % 1000003,
-        "times": lambda a, b: a * b % 1000003, "least": min, "most": max,
-        "below": lambda a, b: int(a < b), "alike": lambda a, b: int(a == b)}
-ONE = {"minus": lambda a: -a % 1000003, "half": lambda a: a // 2, "none": lambda a: int(a == 0)}
 READ_ALL = ("read", 0, 0, (3, 1))
-
-
-def indexes(sides):
-    return list(itertools.product(*[range(side) for side in sides]))
-
-
-def number_by(part, at):
-    first, which, step = part
-    return first if which == -1 else first + step * at[which]
-
-
-def reckoned(tree, at, rows):
-    """What a tree, told as a tuple, gives at an index; rows are told by lines, and are read at their places alone."""
-    kind = tree[0]
-    if kind == "even":
-        return tree[1]
-    if kind == "read":
-        place = tree[2] + sum(step * number for step, number in zip(tree[3], at, strict=True))
-        if not 0 <= place < len(rows[tree[1]]):
-            raise AssertionError(f"line {tree[1]} has no place {place}")
-        return rows[tree[1]][place]
-    if kind == "one":
-        return ONE[tree[1]](reckoned(tree[2], at, rows))
-    if kind == "both":
-        return BOTH[tree[1]](reckoned(tree[2], at, rows), reckoned(tree[3], at, rows))
-    if kind == "where":
-        return reckoned(tree[2] if reckoned(tree[1], at, rows) != 0 else tree[3], at, rows)
-    inside = number_by(tree[1], at) < tree[2]
-    if kind == "within":
-        return reckoned(tree[3], at, rows) if inside and number_by(tree[1], at) >= 0 else tree[4]
-    return reckoned(tree[3] if inside else tree[4], at, rows)
-
-
-def folded(deed, numbers):
-    number = {"add": 0, "times": 1}[deed] if not numbers else numbers[0]
-    for other in numbers[1:]:
-        number = BOTH[deed](number, other)
-    return number
-
-
-def cells_by(loop, rows, tables):
-    """The cells that a loop, told as a tuple, writes."""
-    kind, sides = loop[0], loop[2]
-    if kind == "load":
-        return tables[loop[3]].cells
-    if kind == "fill":
-        return [reckoned(loop[3], at, rows) for at in indexes(sides)]
-    side = loop[3]
-    if kind == "fold":
-        return [folded(loop[5], [reckoned(loop[6], at[:side] + (number,) + at[side:], rows)
-                                 for number in range(loop[4])]) for at in indexes(sides)]
-    if kind == "through":
-        return [folded(loop[4], [reckoned(loop[5], at[:side] + (number,) + at[side + 1:], rows)
-                                 for number in range(at[side] + 1)]) for at in indexes(sides)]
-    source = dict(zip(indexes(loop[6]), rows[loop[4]]))
-    return [source[at[:side] + (rows[loop[5]][at[side]],) + at[side + 1:]] for at in indexes(sides)]
 
 
 def rows_by_the_point(loops):
@@ -314,7 +254,7 @@ class Many(unittest.TestCase):
                     wanted = plain_answer(program[:loop[1] + 1], tables).cells
                 except NoCell:
                     break
-                rows[loop[1]] = cells_by(loop, rows, tables)
+                rows[loop[1]] = cells_by(loop, rows, tables, [])
                 self.assertEqual(rows[loop[1]], wanted, (program, loop))
                 seen += 1
         self.assertGreater(seen, 500)
